@@ -42,8 +42,8 @@ func TestReadPolicy(t *testing.T) {
 func TestChainNumber(t *testing.T) {
 	policy, _ := Read("scrub a{}chain c=a;chain d=a;")
 	for name, want := range map[string]int{"c": 0, "d": 1, "a": -1, "": -1} {
-		if got := policy.chainNumber(name); got != want {
-			t.Errorf("chainNumber(%q) = %d, want %d", name, got, want)
+		if got := policy.ChainNumber(name); got != want {
+			t.Errorf("ChainNumber(%q) = %d, want %d", name, got, want)
 		}
 	}
 }

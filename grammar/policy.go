@@ -153,7 +153,7 @@ func (r *reader) readName() (string, int) {
 
 func (r *reader) newName() string {
 	name, place := r.readName()
-	if r.policy.scrubNumber(name) >= 0 || r.policy.chainNumber(name) >= 0 {
+	if r.policy.scrubNumber(name) >= 0 || r.policy.ChainNumber(name) >= 0 {
 		r.note(Twice, place)
 	}
 	return name
@@ -166,7 +166,7 @@ func (r *reader) knownScrub() int {
 
 func (r *reader) knownChain() int {
 	name, place := r.readName()
-	return r.known(r.policy.chainNumber(name), place)
+	return r.known(r.policy.ChainNumber(name), place)
 }
 
 func (r *reader) known(number, place int) int {
@@ -176,7 +176,8 @@ func (r *reader) known(number, place int) int {
 	return number
 }
 
-func (p *Policy) chainNumber(name string) int {
+// ChainNumber tells the number of the chain of that name, or -1 if there is none.
+func (p *Policy) ChainNumber(name string) int {
 	return slices.IndexFunc(p.Chains, func(c Chain) bool { return c.Name == name })
 }
 

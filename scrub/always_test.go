@@ -7,7 +7,7 @@ import (
 	"time"
 )
 
-// orderly asks both calls twice and fails unless what they answer has the form of P1.
+// orderly asks the calls twice and fails unless what they answer has the form of P1.
 func orderly(t *testing.T, input, text string) {
 	t.Helper()
 	errno, place := Check(input)
@@ -26,6 +26,28 @@ func orderly(t *testing.T, input, text string) {
 		t.Fatalf("P3: Match(%.400q, %.40q): the error %d", input, text, errno)
 	}
 	tidy(t, input, errno, place)
+	orderlyApply(t, input, text)
+}
+
+// orderlyApply asks for chains that are there, at times, and for some that never are.
+func orderlyApply(t *testing.T, policy, text string) {
+	t.Helper()
+	wrong, at := Check(policy)
+	for _, chain := range []string{"c", "p", "q", "", text} {
+		made, errno, place := Apply(policy, chain, text)
+		if againMade, againErrno, again := Apply(policy, chain, text); againMade != made || againErrno != errno || again != place {
+			t.Fatalf("P1: Apply(%.400q, %.40q, %.40q) answers two things", policy, chain, text)
+		}
+		if errno != OK && made != "" {
+			t.Fatalf("P1: Apply(%.400q, %.40q, %.40q) makes a text beside the error %d", policy, chain, text, errno)
+		}
+		if wrong != OK && (errno != wrong || place != at) {
+			t.Fatalf("P4: Apply(%.400q, %.40q, %.40q): %d, %d, but Check %d, %d", policy, chain, text, errno, place, wrong, at)
+		}
+		if wrong == OK && (errno != OK && errno != ErrName || place != 0) {
+			t.Fatalf("P4: Apply(%.400q, %.40q, %.40q): %d, %d", policy, chain, text, errno, place)
+		}
+	}
 }
 
 func tidy(t *testing.T, input string, errno Errno, place int) {
@@ -104,13 +126,18 @@ func TestAlwaysLong(t *testing.T) {
 	}
 }
 
-// The other calls must end and not panic, too.
-func TestAlwaysOthers(t *testing.T) {
-	for _, policy := range []string{"", "x", ready, ready + "never c/a/;same c c;", strings.Repeat("(", 1000000), "\xff"} {
-		for _, text := range []string{"", "c", "\xff\x00", strings.Repeat("a", 1000000)} {
-			Apply(policy, "c", text)
-			Apply(policy, text, text)
+// Texts and names of chains of all kinds and lengths.
+func TestAlwaysApply(t *testing.T) {
+	for _, policy := range []string{"", "x", ready, ready + "never c/a/;same c c;", "scrub a swap \"aaab\" \"\";chain c=a a a;", strings.Repeat("(", 1000000), "\xff"} {
+		for _, text := range []string{"", "c", "\xff\x00", strings.Repeat("a", 1000000), strings.Repeat("aaab", 250000)} {
+			orderlyApply(t, policy, text)
 		}
+	}
+}
+
+// What is not built yet must end and not panic, too.
+func TestAlwaysAudit(t *testing.T) {
+	for _, policy := range []string{"", "x", ready, ready + "never c/a/;same c c;", strings.Repeat("(", 1000000), "\xff"} {
 		Audit(policy)
 	}
 }

@@ -3,6 +3,7 @@ package scrub
 
 import (
 	"scrub/grammar"
+	"scrub/machine"
 	"scrub/pattern"
 )
 
@@ -50,7 +51,18 @@ func Match(expression string, text string) (bool, Errno, int) {
 }
 
 // Apply puts a text through a chain (P4).
-func Apply(policy string, chain string, text string) (string, Errno, int) { return "", 0, 0 }
+func Apply(policy string, chain string, text string) (string, Errno, int) {
+	read, fault := grammar.Read(policy)
+	if fault.Kind != grammar.None {
+		errno, place := answer(fault)
+		return "", errno, place
+	}
+	number := read.ChainNumber(chain)
+	if number < 0 {
+		return "", ErrName, 0
+	}
+	return machine.NewChain(read, read.Chains[number]).Text(text), OK, 0
+}
 
 // Audit decides what is asked (P5).
 func Audit(policy string) ([]Verdict, Errno, int) { return nil, 0, 0 }
