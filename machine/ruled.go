@@ -37,22 +37,24 @@ func output(parts []grammar.Part, b byte) string {
 		case grammar.PartByte:
 			out.WriteByte(b)
 		case grammar.PartUpper:
-			out.WriteByte(upper(b))
+			out.WriteByte(Upper(b))
 		case grammar.PartLower:
-			out.WriteByte(lower(b))
+			out.WriteByte(Lower(b))
 		}
 	}
 	return out.String()
 }
 
-func upper(b byte) byte {
+// Upper gives a small letter as the capital one, and every other byte as it is.
+func Upper(b byte) byte {
 	if 'a' <= b && b <= 'z' {
 		return b - 'a' + 'A'
 	}
 	return b
 }
 
-func lower(b byte) byte {
+// Lower gives a capital letter as the small one, and every other byte as it is.
+func Lower(b byte) byte {
 	if 'A' <= b && b <= 'Z' {
 		return b - 'A' + 'a'
 	}

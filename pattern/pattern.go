@@ -34,6 +34,15 @@ func (p *Pattern) Has(text string) bool {
 	return !now.And(p.ends).Empty()
 }
 
+// Marks gives the sets by which the pattern tells bytes apart: for each place the bytes that may stand there.
+func (p *Pattern) Marks() []sets.Set[byte] {
+	var marks []sets.Set[byte]
+	for place := range p.next {
+		marks = append(marks, sets.Where(func(b byte) bool { return p.having[b].Has(Place(place)) }))
+	}
+	return marks
+}
+
 func (p *Pattern) step(now sets.Set[Place], b byte) sets.Set[Place] {
 	var reached sets.Set[Place]
 	for place, next := range p.next {

@@ -2,6 +2,7 @@ package scrub
 
 import (
 	"math/rand"
+	"slices"
 	"strings"
 	"testing"
 	"time"
@@ -27,6 +28,7 @@ func orderly(t *testing.T, input, text string) {
 	}
 	tidy(t, input, errno, place)
 	orderlyApply(t, input, text)
+	orderlyAudit(t, input)
 }
 
 // orderlyApply asks for chains that are there, at times, and for some that never are.
@@ -46,6 +48,26 @@ func orderlyApply(t *testing.T, policy, text string) {
 		}
 		if wrong == OK && (errno != OK && errno != ErrName || place != 0) {
 			t.Fatalf("P4: Apply(%.400q, %.40q, %.40q): %d, %d", policy, chain, text, errno, place)
+		}
+	}
+}
+
+func orderlyAudit(t *testing.T, policy string) {
+	t.Helper()
+	wrong, at := Check(policy)
+	verdicts, errno, place := Audit(policy)
+	if errno != wrong || place != at {
+		t.Fatalf("P5: Audit(%.400q): %d, %d, but Check %d, %d", policy, errno, place, wrong, at)
+	}
+	if again, againErrno, againPlace := Audit(policy); !slices.Equal(again, verdicts) || againErrno != errno || againPlace != place {
+		t.Fatalf("P1: Audit(%.400q) answers two things", policy)
+	}
+	if errno != OK && verdicts != nil {
+		t.Fatalf("P1: Audit(%.400q) tells %v beside the error %d", policy, verdicts, errno)
+	}
+	for _, v := range verdicts {
+		if v.Kind < Safe || v.Kind > Unlike || (v.Kind == Safe || v.Kind == Same) && v.Witness != "" {
+			t.Fatalf("P5: Audit(%.400q) tells %+v", policy, v)
 		}
 	}
 }
@@ -135,9 +157,9 @@ func TestAlwaysApply(t *testing.T) {
 	}
 }
 
-// What is not built yet must end and not panic, too.
+// Policies of all lengths, with checks and without.
 func TestAlwaysAudit(t *testing.T) {
-	for _, policy := range []string{"", "x", ready, ready + "never c/a/;same c c;", strings.Repeat("(", 1000000), "\xff"} {
-		Audit(policy)
+	for _, policy := range []string{"", "x", ready, ready + "never c/a/;same c c;", ready + "never c//;same c c;" + strings.Repeat(" ", 363), ready + strings.Repeat("never c/./;", 7), strings.Repeat("(", 1000000), "\xff"} {
+		orderlyAudit(t, policy)
 	}
 }

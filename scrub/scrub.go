@@ -2,6 +2,7 @@
 package scrub
 
 import (
+	"scrub/audit"
 	"scrub/grammar"
 	"scrub/machine"
 	"scrub/pattern"
@@ -65,7 +66,29 @@ func Apply(policy string, chain string, text string) (string, Errno, int) {
 }
 
 // Audit decides what is asked (P5).
-func Audit(policy string) ([]Verdict, Errno, int) { return nil, 0, 0 }
+func Audit(policy string) ([]Verdict, Errno, int) {
+	read, fault := grammar.Read(policy)
+	if fault.Kind != grammar.None {
+		errno, place := answer(fault)
+		return nil, errno, place
+	}
+	verdicts := make([]Verdict, 0, len(read.Checks))
+	for _, check := range read.Checks {
+		verdicts = append(verdicts, verdict(read, check))
+	}
+	return verdicts, OK, 0
+}
+
+func verdict(policy grammar.Policy, check grammar.Check) Verdict {
+	good, bad, look := Safe, Unsafe, audit.Never
+	if check.Kind == grammar.Same {
+		good, bad, look = Same, Unlike, audit.Same
+	}
+	if witness, found := look(policy, check); found {
+		return Verdict{Kind: bad, Witness: witness}
+	}
+	return Verdict{Kind: good}
+}
 
 // answer tells a fault as the calls do: the kinds of faults have the errors' numbers.
 func answer(fault grammar.Fault) (Errno, int) {

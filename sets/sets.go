@@ -25,6 +25,17 @@ func Span[P ~uint8](first, last P) Set[P] {
 	return set
 }
 
+// Where gives the set of the places that are wanted.
+func Where[P ~uint8](wanted func(P) bool) Set[P] {
+	var set Set[P]
+	for place := range 256 {
+		if wanted(P(place)) {
+			set.add(P(place))
+		}
+	}
+	return set
+}
+
 func (s *Set[P]) add(place P) {
 	s.words[place/64] |= 1 << (place % 64)
 }

@@ -27,6 +27,22 @@ func TestSpan(t *testing.T) {
 	}
 }
 
+func TestWhere(t *testing.T) {
+	for _, wanted := range []func(place) bool{
+		func(p place) bool { return true },
+		func(p place) bool { return false },
+		func(p place) bool { return p%3 == 0 },
+		func(p place) bool { return p == 255 },
+	} {
+		set := Where(wanted)
+		for p := range 256 {
+			if set.Has(place(p)) != wanted(place(p)) {
+				t.Errorf("Where(..).Has(%d) = %v", p, set.Has(place(p)))
+			}
+		}
+	}
+}
+
 func TestOrAnd(t *testing.T) {
 	low, high := Span[byte](10, 100), Span[byte](90, 200)
 	if low.Or(high) != Span[byte](10, 200) {
